@@ -1,0 +1,1 @@
+"""Dominoes that spell the same above and below."""
