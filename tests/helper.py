@@ -2,6 +2,10 @@
 
 import contextlib
 import io
+import time
+
+# Far above what the dearest calls take, so that only a search gone wild comes near it.
+SECONDS_IN_GOOD_TIME = 30
 
 
 class WatchedList(list):
@@ -55,4 +59,12 @@ def ask(test, function, *arguments):
     second = call(test, function, arguments)
     test.assertEqual(second, answer)
     test.assertEqual(list(arguments), before)
+    return answer
+
+
+def ask_in_time(test, function, *arguments):
+    """The answer of a call whose input is among the dearest, once it is sure that it comes in good time."""
+    started = time.perf_counter()
+    answer = ask(test, function, *arguments)
+    test.assertLess(time.perf_counter() - started, SECONDS_IN_GOOD_TIME)
     return answer

@@ -22,14 +22,22 @@ WORDS_THAT_STAND_NOWHERE = re.compile(
     r"\b(type|typing|typing_extensions|enum|Enum|IntEnum|StrEnum|Flag|IntFlag|Generic|Protocol|ABC|ABCMeta|"
     r"namedtuple|NamedTuple|TypedDict|TYPE_CHECKING|abstractmethod)\b|dataclass|overload|contextmanager")
 
-# The package has functions over lists and no more, so this is narrower than the whole language.
+INTERFACE = {
+    "dm_ahead": ["d", "row"],
+    "dm_least": ["m", "d"],
+}
+
+# The names that an object of the package's own may not use for a method or a value, as Python's own values have them.
+TAKEN = {name for kind in (str, int, list, tuple, dict, set, frozenset, bytes) for name in dir(kind)}
+
+# The package has functions and plain classes over lists and texts and no more: narrower than the whole language.
 NODES = (
-    ast.Module, ast.FunctionDef, ast.arguments, ast.arg, ast.Assign, ast.AugAssign, ast.If, ast.While, ast.For,
+    ast.Module, ast.ClassDef, ast.FunctionDef, ast.arguments, ast.arg, ast.Assign, ast.AugAssign, ast.If, ast.While, ast.For,
     ast.Return, ast.Break, ast.Continue, ast.Expr, ast.Constant, ast.Name, ast.List, ast.Tuple, ast.Dict,
     ast.BinOp, ast.UnaryOp, ast.BoolOp, ast.Compare, ast.IfExp, ast.Call, ast.Attribute, ast.Subscript,
     ast.Slice, ast.ListComp, ast.comprehension, ast.expr_context, ast.operator, ast.unaryop, ast.boolop, ast.cmpop)
 
-NODES_LEFT_OUT = (ast.Div, ast.MatMult, ast.Is, ast.IsNot)
+NODES_LEFT_OUT = (ast.Div, ast.MatMult)
 
 
 def sources():
@@ -47,9 +55,23 @@ def bound_names(tree):
             names.add(node.id)
         elif isinstance(node, ast.arg):
             names.add(node.arg)
-        elif isinstance(node, ast.FunctionDef):
+        elif isinstance(node, (ast.FunctionDef, ast.ClassDef)):
             names.add(node.name)
-    return names
+    return names - {"__init__"}
+
+
+def classes(tree):
+    return [node for node in tree.body if isinstance(node, ast.ClassDef)]
+
+
+def own_methods(tree):
+    return {part.name for node in classes(tree) for part in node.body if isinstance(part, ast.FunctionDef)}
+
+
+def own_values(tree):
+    """The names of what objects keep: those that are given a value anywhere."""
+    return {node.attr for node in ast.walk(tree)
+            if isinstance(node, ast.Attribute) and isinstance(node.ctx, ast.Store)}
 
 
 class Language(unittest.TestCase):
@@ -86,10 +108,37 @@ class Language(unittest.TestCase):
                     self.assertIn(type(node.value), (int, str, bool, type(None)), place)
                 if isinstance(node, (ast.For, ast.While)):
                     self.assertEqual(node.orelse, [], place)
+                if isinstance(node, ast.Compare) and any(isinstance(op, (ast.Is, ast.IsNot)) for op in node.ops):
+                    self.assertIsNone(ast.literal_eval(node.comparators[0]), place)
                 if isinstance(node, ast.Assign):
                     self.assertEqual(len(node.targets), 1, place)
+                    self.assertNotIsInstance(node.targets[0], (ast.Tuple, ast.List), place)
                 if isinstance(node, ast.Attribute):
-                    self.assertIn(node.attr, METHODS, place)
+                    self.assertIn(node.attr, METHODS | own_methods(tree) | own_values(tree), place)
+
+    def test_methods_are_called_where_they_stand(self):
+        for name, tree in trees():
+            called = [node.func for node in ast.walk(tree) if isinstance(node, ast.Call)]
+            for node in ast.walk(tree):
+                if isinstance(node, ast.Attribute) and node.attr in METHODS | own_methods(tree):
+                    self.assertIn(node, called, (name, node.lineno))
+
+    def test_classes_are_plain(self):
+        for name, tree in trees():
+            methods = own_methods(tree) - {"__init__"}
+            self.assertEqual(methods & own_values(tree), set(), name)
+            self.assertEqual((methods | own_values(tree)) & TAKEN, set(), name)
+            for node in classes(tree):
+                self.assertEqual((node.decorator_list, node.bases, node.keywords), ([], [], []), node.name)
+                for part in node.body[1:]:
+                    self.assertIsInstance(part, ast.FunctionDef, node.name)
+                self.assertIsInstance(ast.literal_eval(node.body[0].value), str, node.name)
+
+    def test_what_the_top_of_a_file_holds_cannot_be_changed(self):
+        for name, tree in trees():
+            for node in tree.body:
+                if isinstance(node, ast.Assign):
+                    self.assertIsInstance(ast.literal_eval(node.value), (int, str, tuple), (name, node.lineno))
 
     def test_names(self):
         for name, tree in trees():
@@ -108,7 +157,7 @@ class Language(unittest.TestCase):
                 if isinstance(node, ast.Assign):
                     seen.append(node.targets[0].id)
                     ast.literal_eval(node.value)
-                elif isinstance(node, ast.FunctionDef):
+                elif isinstance(node, (ast.FunctionDef, ast.ClassDef)):
                     seen.append(node.name)
                 else:
                     self.assertIs(node, tree.body[0], name)
@@ -120,8 +169,9 @@ class Interface(unittest.TestCase):
     def test_arguments_are_called_as_the_document_says(self):
         functions = {node.name: node for name, tree in trees() for node in tree.body
                      if isinstance(node, ast.FunctionDef)}
-        self.assertEqual([a.arg for a in functions["dm_ahead"].args.args], ["d", "row"])
-        self.assertEqual(functions["dm_ahead"].args.defaults, [])
+        for name, arguments in INTERFACE.items():
+            self.assertEqual([a.arg for a in functions[name].args.args], arguments, name)
+            self.assertEqual(functions[name].args.defaults, [], name)
 
 
 if __name__ == "__main__":
