@@ -12,6 +12,7 @@ BELOW = 9
 MOST_DOMINOES = 8
 LONGEST_ROW = 64
 LONGEST_SEARCH = 16
+MOST_COUNTED = 2
 
 # With this on top, letters from 0 to 255 are numbers of three digits each.
 LETTER_BASE = 100
@@ -244,14 +245,49 @@ def first_shortest_row(pairs, m):
     return None
 
 
+def search_refusal(m, d, most_dominoes):
+    """The number by which a search through rows of m dominoes at most is refused, or None."""
+    n = len(d) // DOMINO_BYTES
+    if n < 1 or n > most_dominoes or m < 1 or m > LONGEST_SEARCH:
+        return OUT_OF_RANGE
+    if has_long_word(d):
+        return NOT_ALLOWED
+    return None
+
+
 def dm_least(m, d):
     """The first of the shortest rows that fit and have m dominoes at most: how many dominoes, then their numbers."""
-    n = len(d) // DOMINO_BYTES
-    if n < 1 or n > MOST_DOMINOES or m < 1 or m > LONGEST_SEARCH:
-        return [OUT_OF_RANGE]
-    if has_long_word(d):
-        return [NOT_ALLOWED]
+    refusal = search_refusal(m, d, MOST_DOMINOES)
+    if refusal is not None:
+        return [refusal]
     row = first_shortest_row(text_pairs(d), m)
     if row is None:
         return [NO_ANSWER]
     return [len(row)] + row
+
+
+def one_longer(rows, pairs, outlook, left):
+    """How many rows leave each lead, once each of the rows has got one domino more."""
+    longer_rows = {}
+    for lead, how_many in rows.items():
+        for pair in pairs:
+            longer = lead_after(lead, pair)
+            if longer is not None and outlook.allows(longer, left):
+                longer_rows[longer] = longer_rows.get(longer, 0) + how_many
+    return longer_rows
+
+
+def dm_count(m, d):
+    """How many rows of m dominoes at most fit and have no shorter beginning that fits."""
+    refusal = search_refusal(m, d, MOST_COUNTED)
+    if refusal is not None:
+        return [refusal]
+    pairs = text_pairs(d)
+    outlook = Outlook(pairs, m)
+    rows = {NO_LEAD: 1}
+    counted = 0
+    for left in range(m - 1, -1, -1):
+        rows = one_longer(rows, pairs, outlook, left)
+        # Whatever is longer than a row that fits has a beginning that fits: such a row goes no further.
+        counted += rows.pop(NO_LEAD, 0)
+    return [counted]

@@ -25,6 +25,7 @@ WORDS_THAT_STAND_NOWHERE = re.compile(
 INTERFACE = {
     "dm_ahead": ["d", "row"],
     "dm_least": ["m", "d"],
+    "dm_count": ["m", "d"],
 }
 
 # The names that an object of the package's own may not use for a method or a value, as Python's own values have them.
@@ -32,8 +33,8 @@ TAKEN = {name for kind in (str, int, list, tuple, dict, set, frozenset, bytes) f
 
 # The package has functions and plain classes over lists and texts and no more: narrower than the whole language.
 NODES = (
-    ast.Module, ast.ClassDef, ast.FunctionDef, ast.arguments, ast.arg, ast.Assign, ast.AugAssign, ast.If, ast.While, ast.For,
-    ast.Return, ast.Break, ast.Continue, ast.Expr, ast.Constant, ast.Name, ast.List, ast.Tuple, ast.Dict,
+    ast.Module, ast.ClassDef, ast.FunctionDef, ast.arguments, ast.arg, ast.Assign, ast.AugAssign, ast.If, ast.While,
+    ast.For, ast.Return, ast.Break, ast.Continue, ast.Expr, ast.Constant, ast.Name, ast.List, ast.Tuple, ast.Dict,
     ast.BinOp, ast.UnaryOp, ast.BoolOp, ast.Compare, ast.IfExp, ast.Call, ast.Attribute, ast.Subscript,
     ast.Slice, ast.ListComp, ast.comprehension, ast.expr_context, ast.operator, ast.unaryop, ast.boolop, ast.cmpop)
 
