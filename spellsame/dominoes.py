@@ -13,6 +13,8 @@ MOST_DOMINOES = 8
 LONGEST_ROW = 64
 LONGEST_SEARCH = 16
 MOST_COUNTED = 2
+MOST_OF_ONE_LETTER = 64
+LONGEST_OF_ONE_LETTER = 1000
 
 # With this on top, letters from 0 to 255 are numbers of three digits each.
 LETTER_BASE = 100
@@ -232,7 +234,9 @@ def first_shortest_row(pairs, m):
     # Rows are searched from both ends at once: two halves leave far fewer leads than a whole.
     start = Search(pairs, m)
     end = Search([backwards(pair) for pair in pairs], m)
+    # No domino at all would leave no lead either, but a row that fits has one at least.
     start.grow()
+    # Both sides have got so many dominoes in all; the leads within a shortest row come up at neither end before.
     for length in range(1, m + 1):
         lead = first_meeting(start.last_level(), end.last_level())
         if lead is not None:
@@ -291,3 +295,50 @@ def dm_count(m, d):
         # Whatever is longer than a row that fits has a beginning that fits: such a row goes no further.
         counted += rows.pop(NO_LEAD, 0)
     return [counted]
+
+
+def gains_of_ones(a, b):
+    """The different lengths that single dominoes gain above over below."""
+    gains = {}
+    for above, below in zip(a, b):
+        gains[above - below] = True
+    return list(gains)
+
+
+def fewest_to_even_out(gains):
+    """The fewest gains, each as often as need be, that come to 0 in all, or None."""
+    # Their order is free: a loss can follow whenever the total is above 0, else a gain, so totals stay small.
+    rises = [gain for gain in gains if gain > 0]
+    falls = [gain for gain in gains if gain < 0]
+    seen = {}
+    last = rises
+    number = 1
+    while len(last) > 0:
+        number += 1
+        reached = []
+        for total in last:
+            steps = falls if total > 0 else rises
+            for gain in steps:
+                if total + gain == 0:
+                    return number
+                if total + gain not in seen:
+                    seen[total + gain] = True
+                    reached.append(total + gain)
+        last = reached
+    return None
+
+
+def dm_ones(a, b):
+    """The fewest dominoes of a row that fits, where all letters are the same: a of them above, b below."""
+    n = len(a)
+    if n < 1 or n > MOST_OF_ONE_LETTER:
+        return [OUT_OF_RANGE]
+    if max(a) > LONGEST_OF_ONE_LETTER or max(b) > LONGEST_OF_ONE_LETTER:
+        return [NOT_ALLOWED]
+    gains = gains_of_ones(a, b)
+    if 0 in gains:
+        return [1]
+    fewest = fewest_to_even_out(gains)
+    if fewest is None:
+        return [NO_ANSWER]
+    return [fewest]

@@ -26,6 +26,7 @@ INTERFACE = {
     "dm_ahead": ["d", "row"],
     "dm_least": ["m", "d"],
     "dm_count": ["m", "d"],
+    "dm_ones": ["a", "b"],
 }
 
 # The names that an object of the package's own may not use for a method or a value, as Python's own values have them.
