@@ -115,6 +115,19 @@ class Ordinary(LeastCase):
         self.check(16, dominoes((b"aaa", b""), (b"", b"aa")), [5, 0, 0, 1, 1, 1])
         self.check(16, dominoes((b"", b"aa"), (b"aaa", b"")), [5, 0, 0, 0, 1, 1])
 
+    def test_what_is_ahead_is_spelled_in_more_than_one_way(self):
+        # Behind 0, ab is spelled by 3, or by 1 and 2; only with 3 are four dominoes enough.
+        d = dominoes((b"abcc", b""), (b"", b"a"), (b"", b"b"), (b"", b"ab"), (b"", b"c"))
+        self.check(4, d, [4, 0, 3, 4, 4])
+        self.check(16, d, [4, 0, 3, 4, 4])
+        self.check(3, d, [-5])
+        d = dominoes((b"aabcc", b""), (b"", b"aa"), (b"", b"b"), (b"", b"aab"), (b"", b"c"))
+        self.check(4, d, [4, 0, 3, 4, 4])
+        d = dominoes((b"", b"abcc"), (b"a", b""), (b"b", b""), (b"ab", b""), (b"c", b""))
+        self.check(4, d, [4, 0, 3, 4, 4])
+        d = dominoes((b"", b"c"), (b"", b"ba"), (b"", b"b"), (b"", b"a"), (b"ccba", b""))
+        self.check(4, d, [4, 0, 0, 1, 4])
+
     def test_no_row_at_all(self):
         self.check(16, dominoes((b"a", b"b")), [-5])
         self.check(16, dominoes((b"aa", b"a")), [-5])
@@ -320,7 +333,8 @@ class AgainstAllRows(LeastCase):
         longest = expected_least(pairs, max(sizes))
         d = dominoes(*pairs, padding=1)
         before = list(d)
-        for m in sizes:
+        # Where m is just enough, the least is left to spare.
+        for m in (*sizes, max(longest[0], 1)):
             expected = longest if longest[0] <= m else [-5]
             if dm_least(m, d) != expected:
                 self.check(m, d, expected)
@@ -352,6 +366,8 @@ class AgainstAllRows(LeastCase):
                 d = dominoes(*pairs, padding=rng.randrange(256))
                 if dm_least(m, d) != expected:
                     self.check(m, d, expected)
+                if expected != [-5] and dm_least(expected[0], d) != expected:
+                    self.check(expected[0], d, expected)
 
 
 class EachCallByItself(LeastCase):
